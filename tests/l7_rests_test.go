@@ -17,6 +17,9 @@ func fewModules() []impl.Gauss {
 // greatModules have a norm above 100: some just one more, others as great as may be.
 var greatModules = []impl.Gauss{{A: 10, B: 1}, {A: -1, B: 10}, {A: -10, B: -1}, {A: 1, B: -10}, {A: 10, B: 2}, {B: 11}, {A: -8, B: 8}, {A: 31, B: -32}, {A: 100}, {A: 500, B: -500}, {B: -999}, {A: 1000}, {B: -1000}, {A: -1000, B: 1}, {A: 999, B: -1000}, {A: 1000, B: 1000}}
 
+// wrapModules are out of bounds, with a norm that wraps around to one from 0 to 100.
+var wrapModules = []impl.Gauss{{A: 1 << 32, B: 1}, {A: 1 << 32, B: 10}, {A: 3, B: 1 << 32}, {A: 1 << 62, B: 6}}
+
 // inSquare: of the exact quotient of z by m, which is not 0, each part is less than a half, and at least a half below 0.
 func inSquare(z, m impl.Gauss) bool {
 	exact, size := timesBoth(z, impl.Gauss{A: m.A, B: -m.B}), normOf(m)
@@ -471,7 +474,7 @@ func TestAllRestsAreNewEachTime(t *testing.T) {
 }
 
 func TestAllRestsOfWrongModules(t *testing.T) {
-	wrong := slices.Concat(wrongNumbers(), greatModules, []impl.Gauss{{}, {A: 1 << 32, B: 1}, {A: 1 << 32, B: 10}, {A: 3, B: 1 << 32}})
+	wrong := slices.Concat(wrongNumbers(), greatModules, wrapModules, []impl.Gauss{{}})
 	for _, m := range wrong {
 		if got := impl.RestsOf(m); len(got) != 0 {
 			t.Error(m, got)
@@ -551,8 +554,7 @@ func refusedBy(t *testing.T, join joining) {
 		}
 		refused(z, z, z)
 	}
-	wrap := []impl.Gauss{{A: 1 << 32, B: 1}, {A: 1 << 32, B: 10}, {A: 3, B: 1 << 32}, {A: 1 << 62, B: 6}}
-	for _, m := range slices.Concat(greatModules, wrap, []impl.Gauss{{}}) {
+	for _, m := range slices.Concat(greatModules, wrapModules, []impl.Gauss{{}}) {
 		for _, z := range some {
 			for _, w := range some {
 				refused(z, w, m)
